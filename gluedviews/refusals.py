@@ -1,0 +1,8 @@
+"""The numbers below 0 that a call can answer."""
+
+NO_SUCH_VIEW = -2
+NOT_BEGUN = -11
+SAME_VIEW = -17
+NOT_AS_TOLD = -22
+TOO_MANY_VIEWS = -28
+NOT_A_TREE = -33
