@@ -18,6 +18,10 @@ def world_count(question_count):
     return 1 << question_count
 
 
+def all_questions(question_count):
+    return world_count(question_count) - 1
+
+
 def row_count(questions):
     return 1 << len(members(questions))
 
@@ -31,3 +35,11 @@ def shown_row(questions, world):
     for place, question in enumerate(members(questions)):
         row += ((world >> question) & 1) << place
     return row
+
+
+# Of the worlds that show the row, the one that answers 0 to all else.
+def least_world(questions, row):
+    world = 0
+    for place, question in enumerate(members(questions)):
+        world += ((row >> place) & 1) << question
+    return world

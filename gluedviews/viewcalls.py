@@ -1,12 +1,12 @@
 """The calls that make, change and show views: begin, view, unview, table, viewis, world."""
 
-from gluedviews.questions import members, world_count
-from gluedviews.refusals import NO_SUCH_VIEW, NOT_AS_TOLD, SAME_VIEW, TOO_MANY_VIEWS
+from gluedviews.asking import asking_refusal
+from gluedviews.questions import world_count
+from gluedviews.refusals import NO_SUCH_VIEW, NOT_AS_TOLD, TOO_MANY_VIEWS
 from gluedviews.state import MOST_SEEN, View
 
 FEWEST_QUESTIONS = 2
 MOST_QUESTIONS = 5
-MOST_ASKED = 3
 MOST_VIEWS = 6
 
 
@@ -19,16 +19,11 @@ def begin(desk, numbers):
     return [0]
 
 
-def can_be_asked(desk, asked):
-    return asked > 0 and asked < world_count(desk.question_count) and len(members(asked)) <= MOST_ASKED
-
-
 def view(desk, numbers):
     asked = numbers[0]
-    if not can_be_asked(desk, asked):
-        return [NOT_AS_TOLD]
-    if asked in desk.asked_sets():
-        return [SAME_VIEW]
+    refusal = asking_refusal(desk, asked)
+    if refusal is not None:
+        return [refusal]
     if len(desk.views) >= MOST_VIEWS:
         return [TOO_MANY_VIEWS]
     desk.views.append(View(asked))

@@ -129,6 +129,33 @@ class Language(unittest.TestCase):
                     self.assertIn(node.id, BUILT_IN)
                     self.assertIsInstance(node.ctx, ast.Load)
 
+    def test_no_local_is_called_like_an_import_a_class_or_a_name_of_python_s_own(self):
+        for file in files():
+            taken = set(dir(builtins))
+            for node in nodes(file):
+                if isinstance(node, ast.ImportFrom):
+                    taken.update(alias.name for alias in node.names)
+                if isinstance(node, ast.ClassDef):
+                    taken.add(node.name)
+            for node in nodes(file):
+                if isinstance(node, ast.arg):
+                    self.assertNotIn(node.arg, taken, file.name)
+                if isinstance(node, ast.Name) and isinstance(node.ctx, ast.Store):
+                    self.assertNotIn(node.id, taken, file.name)
+
+    def test_no_list_or_dict_at_a_file_s_top(self):
+        for file in files():
+            for row in ast.parse(file.read_text()).body:
+                if isinstance(row, ast.Assign):
+                    self.assertIsInstance(row.value, (ast.Constant, ast.UnaryOp, ast.Tuple), file.name)
+
+    def test_each_import_is_used(self):
+        for file in files():
+            used = {node.id for node in nodes(file) if isinstance(node, ast.Name)}
+            for node in nodes(file):
+                if isinstance(node, ast.ImportFrom):
+                    self.assertLessEqual({alias.name for alias in node.names}, used, file.name)
+
     def test_methods(self):
         own = {node.name for file in files() for node in nodes(file) if isinstance(node, ast.FunctionDef)}
         for file in files():

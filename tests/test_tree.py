@@ -2,7 +2,7 @@ import itertools
 import random
 import unittest
 
-from calling import LARGEST, last, run, with_views
+from calling import LARGEST, bound_among, last, questions_of, run, spans_as_a_tree, takings, with_views
 
 
 def told_of(n, sets):
@@ -92,32 +92,6 @@ class Calls(unittest.TestCase):
     def test_one_more_view_can_make_them_a_tree_again(self):
         each = run(*with_views(3, [3, 6, 5]), ("istree",), ("view", 7), ("istree",))
         self.assertEqual(each[4:], [[0], [3], [1]])
-
-
-def questions_of(s):
-    return frozenset(q for q in range(5) if s & (1 << q))
-
-
-def bound_among(views, left, i):
-    others = frozenset().union(*[views[j] for j in left if j != i])
-    return views[i] & others
-
-
-def takings(views, left):
-    return [(i, j) for i in left for j in left if i != j and bound_among(views, left, i) <= views[j]]
-
-
-def spans_as_a_tree(views):
-    """Whether the heaviest tree over the views, each edge as heavy as what its two views have in common,
-    weighs what the views' questions are counted too often: another way to tell a tree."""
-    weight = 0
-    joined = {i: i for i in range(len(views))}
-    pairs = itertools.combinations(range(len(views)), 2)
-    for i, j in sorted(pairs, key=lambda pair: -len(views[pair[0]] & views[pair[1]])):
-        if joined[i] != joined[j]:
-            weight += len(views[i] & views[j])
-            joined = {k: joined[i] if joined[k] == joined[j] else joined[k] for k in joined}
-    return weight == sum(map(len, views)) - len(frozenset().union(*views))
 
 
 def fewest_and_most_left(views):
